@@ -1,7 +1,9 @@
 package tests
 
 import (
+	"math"
 	"math/rand"
+	"slices"
 	"strings"
 	"testing"
 )
@@ -51,4 +53,41 @@ func want(t *testing.T, holds bool, format string, values ...any) {
 	if !holds {
 		t.Fatalf(format, values...)
 	}
+}
+
+// farNumbers are numbers far below 0 and far above every limit.
+func farNumbers() []int {
+	return []int{math.MinInt, math.MinInt + 1, -1 << 40, -1 << 32, -1 << 16, 1 << 20, 1 << 32, 1 << 40, math.MaxInt - 1, math.MaxInt}
+}
+
+// roomy is a list in memory of its own, with room behind, in which a mark stands.
+func roomy[T any](list []T, mark T) []T {
+	all := append([]T{}, list...)
+	for range 5 {
+		all = append(all, mark)
+	}
+	return all
+}
+
+// sharesNothing holds a call to leave the list that it is given as it is, the room behind included, and to answer with a list in memory of its own.
+func sharesNothing[T comparable](t *testing.T, list []T, mark T, call func([]T) []T) {
+	t.Helper()
+	all := roomy(list, mark)
+	was := slices.Clone(all)
+	given := all[:len(list)]
+	answer := call(given)
+	want(t, slices.Equal(all, was), "a call changed %v into %v", was, all)
+	said := slices.Clone(answer)
+	room := answer[:cap(answer)]
+	var other T
+	for i := range room {
+		room[i] = other
+	}
+	want(t, slices.Equal(all, was), "writing into the answer changed %v into %v", was, all)
+	answer = call(given)
+	want(t, slices.Equal(answer, said), "the second answer is %v, not %v", answer, said)
+	for i := range all {
+		all[i] = other
+	}
+	want(t, slices.Equal(answer, said), "writing into the argument changed %v into %v", said, answer)
 }

@@ -16,6 +16,11 @@ func TestLimitsAndCodes(t *testing.T) {
 		{"FarmHalf", impl.FarmHalf, 8}, {"FopMost", impl.FopMost, 4},
 		{"FarmTakes", impl.FarmTakes, 0}, {"FarmLate", impl.FarmLate, 1}, {"FarmEarly", impl.FarmEarly, 2}, {"FarmFar", impl.FarmFar, 3},
 		{"FarmWaits", impl.FarmWaits, 4}, {"FarmShut", impl.FarmShut, 5}, {"FarmBad", impl.FarmBad, 6}, {"FarmDone", impl.FarmDone, 7},
+		{"PackMax", impl.PackMax, 100}, {"CmdMax", impl.CmdMax, 60}, {"ApidMax", impl.ApidMax, 2047}, {"CountMax", impl.CountMax, 16383}, {"TimeMax", impl.TimeMax, 99999},
+		{"SegMost", impl.SegMost, 20}, {"RuleMax", impl.RuleMax, 12}, {"PlanMax", impl.PlanMax, 6},
+		{"CmdFine", impl.CmdFine, 0}, {"CmdShape", impl.CmdShape, 1}, {"CmdSum", impl.CmdSum, 2}, {"CmdHead", impl.CmdHead, 3},
+		{"ModePlain", impl.ModePlain, 0}, {"ModeSafe", impl.ModeSafe, 1},
+		{"PlanDone", impl.PlanDone, 0}, {"PlanPast", impl.PlanPast, 1}, {"PlanFull", impl.PlanFull, 2}, {"PlanBad", impl.PlanBad, 3},
 	} {
 		want(t, c.is == c.asks, "%s is %d, not %d", c.name, c.is, c.asks)
 	}
