@@ -91,3 +91,19 @@ func sharesNothing[T comparable](t *testing.T, list []T, mark T, call func([]T) 
 	}
 	want(t, slices.Equal(answer, said), "writing into the argument changed %v into %v", said, answer)
 }
+
+// apart holds lists to share no memory, the room behind each included: each is filled with a mark of its own.
+func apart[T comparable](t *testing.T, mark func(int) T, lists ...[]T) {
+	t.Helper()
+	for i, list := range lists {
+		room := list[:cap(list)]
+		for j := range room {
+			room[j] = mark(i)
+		}
+	}
+	for i, list := range lists {
+		for _, x := range list[:cap(list)] {
+			want(t, x == mark(i), "list %d has what was written into another one: %v", i, x)
+		}
+	}
+}

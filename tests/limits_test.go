@@ -21,6 +21,11 @@ func TestLimitsAndCodes(t *testing.T) {
 		{"CmdFine", impl.CmdFine, 0}, {"CmdShape", impl.CmdShape, 1}, {"CmdSum", impl.CmdSum, 2}, {"CmdHead", impl.CmdHead, 3},
 		{"ModePlain", impl.ModePlain, 0}, {"ModeSafe", impl.ModeSafe, 1},
 		{"PlanDone", impl.PlanDone, 0}, {"PlanPast", impl.PlanPast, 1}, {"PlanFull", impl.PlanFull, 2}, {"PlanBad", impl.PlanBad, 3},
+		{"ProgMax", impl.ProgMax, 16}, {"CellMax", impl.CellMax, 8}, {"ValueMax", impl.ValueMax, 9999}, {"PortMax", impl.PortMax, 4}, {"BoxMax", impl.BoxMax, 4},
+		{"OpSet", impl.OpSet, 1}, {"OpAdd", impl.OpAdd, 2}, {"OpMore", impl.OpMore, 3}, {"OpLess", impl.OpLess, 4}, {"OpJump", impl.OpJump, 5}, {"OpTell", impl.OpTell, 6}, {"OpRaise", impl.OpRaise, 7},
+		{"OpTime", impl.OpTime, 8}, {"OpOut", impl.OpOut, 9}, {"OpIn", impl.OpIn, 10}, {"OpRest", impl.OpRest, 11}, {"OpTake", impl.OpTake, 12}, {"OpFar", impl.OpFar, 13},
+		{"PartMax", impl.PartMax, 3}, {"TurnMax", impl.TurnMax, 8}, {"BudgetMax", impl.BudgetMax, 40},
+		{"DownSize", impl.DownSize, 40}, {"DownData", impl.DownData, 28}, {"QueueMax", impl.QueueMax, 8}, {"FirstNone", impl.FirstNone, 2047}, {"FirstIdle", impl.FirstIdle, 2046},
 	} {
 		want(t, c.is == c.asks, "%s is %d, not %d", c.name, c.is, c.asks)
 	}
