@@ -26,6 +26,7 @@ func TestLimitsAndCodes(t *testing.T) {
 		{"OpTime", impl.OpTime, 8}, {"OpOut", impl.OpOut, 9}, {"OpIn", impl.OpIn, 10}, {"OpRest", impl.OpRest, 11}, {"OpTake", impl.OpTake, 12}, {"OpFar", impl.OpFar, 13},
 		{"PartMax", impl.PartMax, 3}, {"TurnMax", impl.TurnMax, 8}, {"BudgetMax", impl.BudgetMax, 40},
 		{"DownSize", impl.DownSize, 40}, {"DownData", impl.DownData, 28}, {"QueueMax", impl.QueueMax, 8}, {"FirstNone", impl.FirstNone, 2047}, {"FirstIdle", impl.FirstIdle, 2046},
+		{"ServeCheck", impl.ServeCheck, 1}, {"ServeHouse", impl.ServeHouse, 3}, {"ServeEvent", impl.ServeEvent, 5}, {"ServeMode", impl.ServeMode, 8}, {"ServePlan", impl.ServePlan, 11}, {"ServeTest", impl.ServeTest, 17},
 	} {
 		want(t, c.is == c.asks, "%s is %d, not %d", c.name, c.is, c.asks)
 	}
