@@ -27,6 +27,8 @@ func TestLimitsAndCodes(t *testing.T) {
 		{"PartMax", impl.PartMax, 3}, {"TurnMax", impl.TurnMax, 8}, {"BudgetMax", impl.BudgetMax, 40},
 		{"DownSize", impl.DownSize, 40}, {"DownData", impl.DownData, 28}, {"QueueMax", impl.QueueMax, 8}, {"FirstNone", impl.FirstNone, 2047}, {"FirstIdle", impl.FirstIdle, 2046},
 		{"ServeCheck", impl.ServeCheck, 1}, {"ServeHouse", impl.ServeHouse, 3}, {"ServeEvent", impl.ServeEvent, 5}, {"ServeMode", impl.ServeMode, 8}, {"ServePlan", impl.ServePlan, 11}, {"ServeTest", impl.ServeTest, 17},
+		{"LinkMax", impl.LinkMax, 12}, {"SendMax", impl.SendMax, 40}, {"PlayMax", impl.PlayMax, 300}, {"CalmMax", impl.CalmMax, 8},
+		{"WorldSend", impl.WorldSend, 1}, {"WorldAgain", impl.WorldAgain, 2}, {"WorldTick", impl.WorldTick, 3}, {"WorldLose", impl.WorldLose, 4}, {"WorldSpoil", impl.WorldSpoil, 5}, {"WorldHear", impl.WorldHear, 6}, {"WorldMiss", impl.WorldMiss, 7},
 	} {
 		want(t, c.is == c.asks, "%s is %d, not %d", c.name, c.is, c.asks)
 	}
